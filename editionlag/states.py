@@ -4,18 +4,20 @@ The functions without checks take a window as a list of numbers of editions, so
 that they serve for any way in which servers may lag.
 """
 
-from editionlag.checks import check_lag, is_integer, is_number
+from editionlag.checks import check_lag, is_ascending, is_integer, is_number
 from editionlag.errors import BadDeed, BadDeeds, BadState, TooLarge
 from editionlag.schedules import all_windows, check_schedule
 
 MOST_STATES = 1000
 
 
-def are_entries(held, width):
-    """Tells whether something is an ascending tuple of values."""
-    if not isinstance(held, tuple) or not all([is_number(value, width - 1) for value in held]):
+def is_row(value, entries, width, many):
+    """Tells whether both are a value or None, and the entries of so many indexes."""
+    if value is not None and not is_number(value, width - 1):
         return False
-    return all([low < high for low, high in zip(held, held[1:])])
+    if not isinstance(entries, tuple) or len(entries) != many:
+        return False
+    return all([is_ascending(held, width - 1) for held in entries])
 
 
 def can_be_due(schedule, begun):
@@ -31,11 +33,7 @@ def is_state(schedule, state):
         return False
     if due and not can_be_due(schedule, begun):
         return False
-    if value is not None and not is_number(value, schedule.width - 1):
-        return False
-    if not isinstance(entries, tuple) or len(entries) != len(schedule.first):
-        return False
-    return all([are_entries(held, schedule.width) for held in entries])
+    return is_row(value, entries, schedule.width, len(schedule.first))
 
 
 def checked_window(schedule, state, lag):
@@ -97,16 +95,20 @@ def written(word, held, old, new):
     return with_value(left, new)
 
 
-def visited(schedule, state):
-    """Returns the entries behind the visit of a fill or a sweep."""
-    begun, _, value, entries = state
-    word, index = schedule.steps[begun - 1]
+def row_behind(edition, value, entries, new):
+    """Returns the row and the entries behind a server of an edition that makes a row new."""
+    return new, tuple([written(word, held, value, new) for word, held in zip(edition, entries)])
+
+
+def row_visited(step, value, entries):
+    """Returns the row and the entries behind the visit of a fill or a sweep."""
+    word, index = step
     found = list(entries)
     if word == "sweep":
         found[index] = ()
     elif value is not None:
         found[index] = with_value(found[index], value)
-    return tuple(found)
+    return value, tuple(found)
 
 
 def state_behind(schedule, state, deed):
@@ -115,10 +117,11 @@ def state_behind(schedule, state, deed):
     if deed[0] == "begin":
         return begun + 1, can_be_due(schedule, begun + 1), value, entries
     if deed[0] == "visit":
-        return begun, False, value, visited(schedule, state)
+        value, entries = row_visited(schedule.steps[begun - 1], value, entries)
+        return begun, False, value, entries
     new = deed[2] if deed[0] == "put" else None
-    words = schedule[deed[1]]
-    return begun, due, new, tuple([written(word, held, value, new) for word, held in zip(words, entries)])
+    value, entries = row_behind(schedule[deed[1]], value, entries, new)
+    return begun, due, value, entries
 
 
 def wishes_broken(schedule, state, numbers):
@@ -137,21 +140,38 @@ def wishes_broken(schedule, state, numbers):
     return sorted(set(told))
 
 
-def reached(schedule, windows):
-    """Returns the states that come about with these windows, from the first one on."""
-    found = [start_of(schedule)]
-    seen = set(found)
+def come_about(schedule, windows):
+    """Returns a dict from the states that come about with these windows to what is ahead.
+
+    That is a pair of a state and the deed that leads from it, for the first state None.
+    States that take fewer deeds come first, and none takes fewer than by what is ahead.
+    """
+    start = start_of(schedule)
+    ahead = {start: None}
+    found = [start]
     at = 0
     while at < len(found):
         state = found[at]
         at += 1
         for deed in deeds_within(schedule, state, windows[state[0]]):
             behind = state_behind(schedule, state, deed)
-            if behind not in seen:
-                seen.add(behind)
+            if behind not in ahead:
+                ahead[behind] = (state, deed)
                 found.append(behind)
         if len(found) > MOST_STATES:
             raise TooLarge(f"more than {MOST_STATES} states come about")
+    return ahead
+
+
+def woven_from(schedule, windows, history):
+    """Returns the states behind each deed, up to the first one that cannot be done."""
+    state = start_of(schedule)
+    found = []
+    for deed in history:
+        if not is_among(deed, deeds_within(schedule, state, windows[state[0]])):
+            return found
+        state = state_behind(schedule, state, deed)
+        found.append(state)
     return found
 
 
@@ -185,14 +205,9 @@ def woven(schedule, history, *, lag=1):
     check_lag(lag)
     if not isinstance(history, (list, tuple)):
         raise BadDeeds(None)
-    windows = all_windows(schedule, lag)
-    state = start_of(schedule)
-    found = []
-    for index, deed in enumerate(history):
-        if not is_among(deed, deeds_within(schedule, state, windows[state[0]])):
-            raise BadDeeds(index)
-        state = state_behind(schedule, state, deed)
-        found.append(state)
+    found = woven_from(schedule, all_windows(schedule, lag), history)
+    if len(found) < len(history):
+        raise BadDeeds(len(found))
     return found
 
 
@@ -200,4 +215,4 @@ def all_states(schedule, *, lag=1):
     """Returns the list of all states that come about, each once."""
     check_schedule(schedule)
     check_lag(lag)
-    return reached(schedule, all_windows(schedule, lag))
+    return list(come_about(schedule, all_windows(schedule, lag)))

@@ -1,9 +1,10 @@
-"""The document's words on windows, states, deeds and wishes, tried out one by one.
+"""The document's words on windows, states, deeds, wishes and looks, tried out one by one.
 
 It is slow and knows nothing of the package: entries are frozensets, and every
 deed that can be thought of is tried in every state.
 """
 
+from functools import lru_cache
 from itertools import combinations, product
 
 
@@ -97,3 +98,174 @@ def states_that_come_about(width, first, steps, lag):
         if len(more) == len(found):
             return found
         found = more
+
+
+@lru_cache(maxsize=None)
+def deeds_to(width, first, steps, lag):
+    """The least number of deeds to each state that comes about, by one layer of states behind the other."""
+    start = (0, False, None, tuple(frozenset() for _ in first))
+    found, layer, many = {}, {start}, 0
+    while layer:
+        found.update({state: many for state in layer})
+        many += 1
+        layer = {
+            tried(first, steps, state, deed, window_of(first, steps, state[0], lag))
+            for state in layer
+            for deed in thinkable_deeds(width, steps)
+        } - set(found) - {None}
+    return found
+
+
+def soonest(width, first, steps, lag, wish):
+    """The least number of deeds to a state that breaks a wish, or None."""
+    found = deeds_to(width, first, steps, lag)
+    return min([
+        found[state] for state in found
+        if wish in wishes_broken(first, steps, state, window_of(first, steps, state[0], lag))
+    ], default=None)
+
+
+def weaving(width, first, steps, lag, deeds, wishes):
+    """Whether deeds can be done and lead to a state that breaks one of the wishes."""
+    state = (0, False, None, tuple(frozenset() for _ in first))
+    for deed in deeds:
+        if deed not in thinkable_deeds(width, steps):
+            return False
+        state = tried(first, steps, state, deed, window_of(first, steps, state[0], lag))
+        if state is None:
+            return False
+    return bool(set(wishes) & set(wishes_broken(first, steps, state, window_of(first, steps, state[0], lag))))
+
+
+def closed(width, first, steps, lag, states, wishes):
+    """Whether told states are a list as in a Right for all of the wishes."""
+    held = {state[:3] + (tuple(map(frozenset, state[3])),) for state in states}
+    if (0, False, None, tuple(frozenset() for _ in first)) not in held:
+        return False
+    for state in held:
+        window = window_of(first, steps, state[0], lag)
+        behind = {tried(first, steps, state, deed, window) for deed in thinkable_deeds(width, steps)}
+        if behind - {None} - held or set(wishes) & set(wishes_broken(first, steps, state, window)):
+            return False
+    return True
+
+
+def sorted_sights(sights):
+    """Told pairs of a row and its entries, in order: None before numbers."""
+    told = {(value, tuple(tuple(sorted(held)) for held in entries)) for value, entries in sights}
+    return tuple(sorted(told, key=lambda sight: (sight[0] is not None, sight[0] or 0, sight[1])))
+
+
+def look_of(width, first, steps, lag):
+    editions = editions_of(first, steps)
+    sights = {
+        state[2:] for state in states_that_come_about(width, first, steps, lag)
+        if state[0] == len(steps) and not state[1]
+    }
+    return tuple(editions[number] for number in window_of(first, steps, len(steps), lag)), sorted_sights(sights)
+
+
+def is_right(width, first, steps, lag):
+    return all(soonest(width, first, steps, lag, wish) is None for wish in ("missed", "stray"))
+
+
+def comes_home(width, first, steps, lag, last):
+    editions = editions_of(first, steps)
+    ends = all(editions[number] == last for number in window_of(first, steps, len(steps), lag))
+    return ends and all(soonest(width, first, steps, lag, wish) is None for wish in ("left", "missed", "stray"))
+
+
+def all_steps(many):
+    editions = product(("absent", "delete", "public", "write"), repeat=many)
+    return [("edition", edition) for edition in editions] + [
+        (word, index) for word in ("fill", "sweep") for index in range(many)
+    ]
+
+
+def price_of(steps, prices):
+    return sum({"edition": prices[0], "fill": prices[1], "sweep": prices[2]}[step[0]] for step in steps)
+
+
+def right_schedules(width, first, lag, most):
+    """The steps of all right schedules of at most so many steps, one by one."""
+    found = layer = [()]
+    for _ in range(most):
+        longer = [steps + (step,) for steps in layer for step in all_steps(len(first))]
+        layer = [steps for steps in longer if is_right(width, first, steps, lag)]
+        found = found + layer
+    return found
+
+
+def sights_behind(width, editions, sights):
+    """The pairs to which servers of some editions lead from some, and these."""
+    found = set(sights)
+    waiting = list(found)
+    while waiting:
+        value, entries = waiting.pop()
+        for edition, new in product(editions, [None, *range(width)]):
+            if new == value:
+                continue
+            behind = []
+            for word, held in zip(edition, entries):
+                held = held if word == "absent" else held - {value}
+                behind.append(held | {new} - {None} if word in ("write", "public") else held)
+            sight = (new, tuple(behind))
+            if sight not in found:
+                found.add(sight)
+                waiting.append(sight)
+    return found
+
+
+def look_behind(width, look, step, lag):
+    """The look to which a step leads from another one, or None if it is not right behind it."""
+    editions, told = look
+    sights = {(value, tuple(map(frozenset, entries))) for value, entries in told}
+    if step[0] == "edition":
+        editions = (editions + (step[1],))[-lag - 1:]
+    else:
+        come = {"fill": lambda value, held: held | {value} - {None}, "sweep": lambda value, held: frozenset()}[step[0]]
+        at = step[1]
+        sights = {(value, held[:at] + (come(value, held[at]),) + held[at + 1:]) for value, held in sights}
+    sights = sights_behind(width, editions, sights)
+    for index in range(len(editions[0])):
+        if any(edition[index] == "public" for edition in editions):
+            if any(entries[index] != {value} - {None} for value, entries in sights):
+                return None
+    return editions, sorted_sights(sights)
+
+
+def look_is_home(look, last):
+    editions, sights = look
+    absent = [index for index, word in enumerate(last) if word == "absent"]
+    return set(editions) == {last} and not any(entries[index] for _, entries in sights for index in absent)
+
+
+def looks_within(width, look, prices, limit, lag):
+    """The least prices of the looks behind one, within a limit: by one price after the other."""
+    found = {}
+    waiting = {price: set() for price in range(limit + 1)}
+    waiting[0].add(look)
+    for price in waiting:
+        for here in waiting[price] - set(found):
+            found[here] = price
+            for step in all_steps(len(look[0][0])):
+                reach = price + price_of([step], prices)
+                behind = look_behind(width, here, step, lag) if reach <= limit else None
+                if behind is not None:
+                    waiting[reach].add(behind)
+    return found
+
+
+def levels_hold(width, first, last, prices, lag, levels, bound):
+    """Whether levels are as in a Cheapest whose way has the price bound, or in a NoWay of the limit bound - 1."""
+    if levels.get(look_of(width, first, (), lag)) != 0 or min(levels.values()) < 0:
+        return False
+    for look in levels:
+        if levels[look] < bound and look_is_home(look, last):
+            return False
+        for step in all_steps(len(first)):
+            reach = levels[look] + price_of([step], prices)
+            behind = look_behind(width, look, step, lag) if reach < bound else None
+            if behind is not None and levels.get(behind, reach + 1) > reach:
+                return False
+    return True

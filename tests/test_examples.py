@@ -18,6 +18,43 @@ PARTS = {
         "woven": "(schedule, history, *, lag=1)",
         "all_states": "(schedule, *, lag=1)",
     },
+    "judging": {
+        "judge": "(schedule, wish, *, lag=1)",
+        "is_kept": "(schedule, wish, *, lag=1)",
+        "soonest": "(schedule, wish, *, lag=1)",
+        "is_right": "(schedule, *, lag=1)",
+        "Right": "(states)",
+        "Wrong": "(deeds)",
+    },
+    "lags": {
+        "bear": "(schedule)",
+        "greatest_lag": "(schedule)",
+        "Bears": "(number, states, deeds)",
+    },
+    "looks": {
+        "look_of": "(schedule, *, lag=1)",
+        "comes_home": "(schedule, last, *, lag=1)",
+        "cheapest": "(width, first, last, prices, limit, *, lag=1)",
+        "least_price": "(width, first, last, prices, limit, *, lag=1)",
+        "Cheapest": "(way, levels)",
+        "NoWay": "(levels)",
+    },
+    "leaving": {
+        "lots": "(schedule, offers)",
+        "left_out": "(schedule, offers, lot)",
+        "spare": "(schedule, offers, last, *, lag=1)",
+        "greatest_lots": "(schedule, offers, last, *, lag=1)",
+        "Spared": "(good, fails)",
+    },
+}
+# The classes with a method `shows`, and its parameters.
+SHOWS = {
+    ("judging", "Right"): "(self, schedule, wish, *, lag=1)",
+    ("judging", "Wrong"): "(self, schedule, wish, *, lag=1)",
+    ("lags", "Bears"): "(self, schedule)",
+    ("looks", "Cheapest"): "(self, width, first, last, prices, limit, *, lag=1)",
+    ("looks", "NoWay"): "(self, width, first, last, prices, limit, *, lag=1)",
+    ("leaving", "Spared"): "(self, schedule, offers, last, *, lag=1)",
 }
 
 
@@ -43,6 +80,19 @@ class Interface(unittest.TestCase):
         for name in ("width", "first", "steps"):
             self.assertIsInstance(body[name], property)
         self.assertEqual(str(inspect.signature(body["with_steps"])), "(self, steps)")
+
+    def test_classes_with_shows_define_their_methods_themselves(self):
+        for (part, name), parameters in SHOWS.items():
+            with self.subTest(part=part, name=name):
+                body = vars(getattr(importlib.import_module(f"editionlag.{part}"), name))
+                for method in ("__init__", "__eq__", "shows"):
+                    self.assertIn(method, body)
+                self.assertEqual(str(inspect.signature(body["shows"])), parameters)
+
+    def test_wishes(self):
+        wishes = importlib.import_module("editionlag.judging").WISHES
+        self.assertEqual(wishes, tuple(sorted(wishes)))
+        self.assertIs(wishes.__class__, tuple)
 
 
 if __name__ == "__main__":

@@ -20,7 +20,15 @@ STRANGE = (
     len, int, Schedule, Agreeable(), lambda: None,
 )
 NO_SCHEDULES = STRANGE + (None, 1, (1, ("absent",), ()), [1, ("absent",), ()])
+NO_WISHES = STRANGE + (None, 0, "Left", "left ", "leftmissed", "", b"left", ("left",), ["left"], ("left", "missed"), SHORT)
 NO_LAGS = STRANGE + (None, 5, "1", (1,), [1], SHORT)
+
+# It has more than 1000 states with any lag.
+HUGE = Schedule(3, ("public", "write"), (
+    ("edition", ("absent", "absent")), ("edition", ("write", "absent")), ("edition", ("absent", "write")),
+    ("fill", 0), ("fill", 1), ("sweep", 0), ("fill", 0), ("fill", 1), ("edition", ("delete", "absent")),
+    ("edition", ("absent", "delete")), ("edition", ("absent", "absent")), ("sweep", 1),
+))
 
 
 def told(error):
@@ -59,6 +67,8 @@ def check_door(case, door, rights, wrongs, keyword=None):
             with case.subTest(place=place, value=value):
                 refused(case, lambda: call({place: value}), error, *more)
         for later, others, *_ in wrongs[at + 1:]:
+            if later == place:
+                continue
             for value, other in [(values[0], other) for other in others] + [(value, others[0]) for value in values]:
                 with case.subTest(place=place, value=value, later=later, other=other):
                     refused(case, lambda: call({place: value, later: other}), error, *more)

@@ -80,7 +80,7 @@ def copied(table):
 
 def are_all_told(good, fails, offers):
     """Tells whether no good lot is within another one, and the failing ones are those within no good one."""
-    if not all([is_lot(lot, offers) for lot in [*good, *fails]]):
+    if not all([is_lot(lot, offers) for lot in list(good) + list(fails)]):
         return False
     if greatest_of(list(good)) != list(good):
         return False

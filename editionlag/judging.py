@@ -55,6 +55,11 @@ def is_broken(schedule, windows, history, wishes):
     return len(found) > len(history) and breaks(schedule, windows, found[-1], wishes)
 
 
+def copied(table):
+    """Returns a new dict with new lists."""
+    return {key: list(table[key]) if isinstance(table[key], list) else table[key] for key in table}
+
+
 class Right:
     """A list of states that shows that a wish is kept."""
 
@@ -94,9 +99,9 @@ def weaving_to(ahead, state):
     return found[::-1]
 
 
-def judged(schedule, windows, wishes):
+def judged(schedule, windows, wishes, known=None):
     """Returns a Right for all of some wishes, or a Wrong of the fewest deeds for one of them."""
-    ahead = come_about(schedule, windows)
+    ahead = come_about(schedule, windows, known)
     for state in ahead:
         if breaks(schedule, windows, state, wishes):
             return Wrong(weaving_to(ahead, state))

@@ -2,7 +2,7 @@
 
 from editionlag.checks import check_lag, is_ascending
 from editionlag.errors import BadEdition, BadOffers
-from editionlag.judging import WISHES, Right, are_kept, is_broken
+from editionlag.judging import WISHES, Right, are_kept, copied, is_broken
 from editionlag.looks import ends_with, judged_home
 from editionlag.schedules import all_windows, check_schedule, is_edition
 
@@ -71,11 +71,6 @@ class Spared:
         if not all([is_good(schedule, lot, last, lag, self.good[lot]) for lot in self.good]):
             return False
         return all([is_failing(schedule, lot, last, lag, self.fails[lot]) for lot in self.fails])
-
-
-def copied(table):
-    """Returns a new dict with new lists."""
-    return {lot: list(table[lot]) if isinstance(table[lot], list) else table[lot] for lot in table}
 
 
 def are_all_told(good, fails, offers):

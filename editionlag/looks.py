@@ -21,11 +21,15 @@ MOST_LOOKS = 300
 def check_road(width, first, last, prices, limit, lag):
     if not is_width(width) or not is_first_edition(first) or not is_edition(last, len(first)):
         raise BadTable("not a width, and two editions for as many indexes")
+    check_costs(prices, limit)
+    check_lag(lag)
+
+
+def check_costs(prices, limit):
     if not are_prices(prices):
         raise BadPrices(f"not a triple of integers from 1 to {MOST_PRICE}")
     if not is_number(limit, MOST_LIMIT):
         raise BadLimit(f"not an integer from 0 to {MOST_LIMIT}")
-    check_lag(lag)
 
 
 def are_prices(prices):

@@ -100,6 +100,18 @@ def row_behind(edition, value, entries, new):
     return new, tuple([written(word, held, value, new) for word, held in zip(edition, entries)])
 
 
+def rows_behind(known, width, edition, value, entries):
+    """Returns the rows and entries behind each deed of a server of an edition, cutting first.
+
+    They are put into what is known, as the same rows come again in many states.
+    """
+    key = (edition, value, entries)
+    if key not in known:
+        news = [new for new in [None] + list(range(width)) if new != value]
+        known[key] = [row_behind(edition, value, entries, new) for new in news]
+    return known[key]
+
+
 def row_visited(step, value, entries):
     """Returns the row and the entries behind the visit of a fill or a sweep."""
     word, index = step
@@ -140,12 +152,28 @@ def wishes_broken(schedule, state, numbers):
     return sorted(set(told))
 
 
-def come_about(schedule, windows):
+def leads(schedule, state, numbers, known):
+    """Returns pairs of each deed that can be done in a state with this window and the state behind it."""
+    begun, due, value, entries = state
+    found = []
+    if due or begun < len(schedule):
+        deed = ("visit",) if due else ("begin",)
+        found.append((deed, state_behind(schedule, state, deed)))
+    for n in numbers:
+        for new, held in rows_behind(known, schedule.width, schedule[n], value, entries):
+            deed = ("cut", n) if new is None else ("put", n, new)
+            found.append((deed, (begun, due, new, held)))
+    return found
+
+
+def come_about(schedule, windows, known=None):
     """Returns a dict from the states that come about with these windows to what is ahead.
 
     That is a pair of a state and the deed that leads from it, for the first state None.
     States that take fewer deeds come first, and none takes fewer than by what is ahead.
+    Who asks for several schedules of one width may hand in one dict of what is known.
     """
+    known = {} if known is None else known
     start = start_of(schedule)
     ahead = {start: None}
     found = [start]
@@ -153,8 +181,7 @@ def come_about(schedule, windows):
     while at < len(found):
         state = found[at]
         at += 1
-        for deed in deeds_within(schedule, state, windows[state[0]]):
-            behind = state_behind(schedule, state, deed)
+        for deed, behind in leads(schedule, state, windows[state[0]], known):
             if behind not in ahead:
                 ahead[behind] = (state, deed)
                 found.append(behind)

@@ -1,4 +1,4 @@
-"""The document's words on windows, states, deeds, wishes and looks, tried out one by one.
+"""The document's words on windows, states, deeds, wishes, looks and plans, tried out one by one.
 
 It is slow and knows nothing of the package: entries are frozensets, and every
 deed that can be thought of is tried in every state.
@@ -186,9 +186,9 @@ def price_of(steps, prices):
     return sum({"edition": prices[0], "fill": prices[1], "sweep": prices[2]}[step[0]] for step in steps)
 
 
-def right_schedules(width, first, lag, most):
-    """The steps of all right schedules of at most so many steps, one by one."""
-    found = layer = [()]
+def right_schedules(width, first, lag, most, begun=()):
+    """The steps of all right schedules of at most so many steps behind those that have begun, one by one."""
+    found = layer = [begun]
     for _ in range(most):
         longer = [steps + (step,) for steps in layer for step in all_steps(len(first))]
         layer = [steps for steps in longer if is_right(width, first, steps, lag)]
@@ -256,9 +256,12 @@ def looks_within(width, look, prices, limit, lag):
     return found
 
 
-def levels_hold(width, first, last, prices, lag, levels, bound):
-    """Whether levels are as in a Cheapest whose way has the price bound, or in a NoWay of the limit bound - 1."""
-    if levels.get(look_of(width, first, (), lag)) != 0 or min(levels.values()) < 0:
+def levels_hold(width, first, last, prices, lag, levels, bound, begun=()):
+    """Whether levels are as in a Cheapest whose way has the price bound, or in a NoWay of the limit bound - 1.
+
+    Likewise for ways back from the steps that have begun.
+    """
+    if levels.get(look_of(width, first, begun, lag)) != 0 or min(levels.values()) < 0:
         return False
     for look in levels:
         if levels[look] < bound and look_is_home(look, last):
@@ -269,3 +272,33 @@ def levels_hold(width, first, last, prices, lag, levels, bound):
             if behind is not None and levels.get(behind, reach + 1) > reach:
                 return False
     return True
+
+
+def woven_steps(one, other, plan):
+    """The steps of the schedule of a plan, or None if it is no plan; both are pairs of a first edition and steps."""
+    left = [list(one[1]), list(other[1])]
+    words = [one[0][0], other[0][0]]
+    found = []
+    for turn in plan:
+        turns = {"one": [0], "other": [1], "both": [0, 1]}[turn]
+        if not all(left[at] for at in turns):
+            return None
+        taken = [left[at].pop(0) for at in turns]
+        kinds = {step[0] for step in taken}
+        if turn == "both" and kinds != {"edition"}:
+            return None
+        if kinds == {"edition"}:
+            for at, step in zip(turns, taken):
+                words[at] = step[1][0]
+            found.append(("edition", tuple(words)))
+        else:
+            found.append((taken[0][0], turns[0]))
+    return None if any(left) else tuple(found)
+
+
+@lru_cache(maxsize=None)
+def plans(one, other):
+    """All tuples of words that are plans: products come by their lengths, then as tuples."""
+    most = len(one[1]) + len(other[1])
+    thinkable = [plan for size in range(most + 1) for plan in product(("both", "one", "other"), repeat=size)]
+    return [plan for plan in thinkable if woven_steps(one, other, plan) is not None]

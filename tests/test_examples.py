@@ -46,6 +46,24 @@ PARTS = {
         "greatest_lots": "(schedule, offers, last, *, lag=1)",
         "Spared": "(good, fails)",
     },
+    "weaving": {
+        "plans": "(one, other)",
+        "woven_by": "(one, other, plan)",
+        "weave": "(one, other, *, lag=1)",
+        "least_steps": "(one, other, *, lag=1)",
+        "Shortest": "(plan, states, wrongs)",
+        "NoPlan": "(wrongs)",
+    },
+    "backs": {
+        "back": "(schedule, begun, prices, limit, *, lag=1)",
+        "back_price": "(schedule, begun, prices, limit, *, lag=1)",
+        "back_prices": "(schedule, prices, limit, *, lag=1)",
+        "Back": "(way, levels)",
+        "NoBack": "(levels)",
+    },
+    "live": {
+        "LiveTable": "(schedule, rows, *, lag=1)",
+    },
 }
 # The classes with a method `shows`, and its parameters.
 SHOWS = {
@@ -55,6 +73,10 @@ SHOWS = {
     ("looks", "Cheapest"): "(self, width, first, last, prices, limit, *, lag=1)",
     ("looks", "NoWay"): "(self, width, first, last, prices, limit, *, lag=1)",
     ("leaving", "Spared"): "(self, schedule, offers, last, *, lag=1)",
+    ("weaving", "Shortest"): "(self, one, other, *, lag=1)",
+    ("weaving", "NoPlan"): "(self, one, other, *, lag=1)",
+    ("backs", "Back"): "(self, schedule, begun, prices, limit, *, lag=1)",
+    ("backs", "NoBack"): "(self, schedule, begun, prices, limit, *, lag=1)",
 }
 
 
@@ -80,6 +102,18 @@ class Interface(unittest.TestCase):
         for name in ("width", "first", "steps"):
             self.assertIsInstance(body[name], property)
         self.assertEqual(str(inspect.signature(body["with_steps"])), "(self, steps)")
+
+    def test_live_table_defines_its_methods_and_properties_itself(self):
+        body = vars(importlib.import_module("editionlag.live").LiveTable)
+        methods = {
+            "can": "(self)", "do": "(self, deed)", "rows_by": "(self, index, value)", "broken": "(self)",
+            "undo": "(self)", "branch": "(self)", "trial": "(self)", "attempt": "(self, work)",
+            "tried": "(self, history)", "__len__": "(self)",
+        }
+        for name, parameters in methods.items():
+            self.assertEqual(str(inspect.signature(body[name])), parameters)
+        for name in ("now", "journal"):
+            self.assertIsInstance(body[name], property)
 
     def test_classes_with_shows_define_their_methods_themselves(self):
         for (part, name), parameters in SHOWS.items():

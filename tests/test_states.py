@@ -102,6 +102,14 @@ class Deeds(unittest.TestCase):
         wrongs = [(0, NO_SCHEDULES, BadSchedule, None), ("lag", NO_LAGS, BadLag), (1, NO_STATES, BadState)]
         check_door(self, deeds, [SHORT, DUE], wrongs, "lag")
 
+    def test_no_step_is_due_before_one_has_begun(self):
+        state = (0, True, None, ((),))
+        for steps in ((), (("fill", 0),), (("edition", ("write",)), ("sweep", 0))):
+            schedule = Schedule(1, ("write",), steps)
+            for door in (deeds, broken):
+                refused(self, lambda: door(schedule, state), BadState)
+            refused(self, lambda: after(schedule, state, ("visit",)), BadState)
+
     def test_states_of_two_indexes(self):
         schedule = Schedule(1, ("absent", "write"), ())
         refused(self, lambda: deeds(schedule, (0, False, None, ((),))), BadState)

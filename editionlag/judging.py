@@ -2,13 +2,14 @@
 
 The functions without checks take windows for each number of steps that have begun,
 and several wishes at once, so that they serve for any way in which servers may lag.
+If at_end is True, wishes are only asked for where all steps have begun, and none is due.
 """
 
 from editionlag.checks import check_lag
 from editionlag.errors import BadWish
 from editionlag.schedules import all_windows, check_schedule
 from editionlag.states import (
-    come_about, deeds_within, is_state, start_of, state_behind, wishes_broken, woven_from,
+    come_about, deeds_within, is_ended, is_state, start_of, state_behind, wishes_broken, woven_from,
 )
 
 WISHES = ("left", "missed", "stray")
@@ -25,13 +26,15 @@ def checked_windows(schedule, wish, lag):
     return all_windows(schedule, lag)
 
 
-def breaks(schedule, windows, state, wishes):
+def breaks(schedule, windows, state, wishes, at_end=False):
     """Tells whether a state breaks one of some wishes."""
+    if at_end and not is_ended(schedule, state):
+        return False
     told = wishes_broken(schedule, state, windows[state[0]])
     return any([wish in wishes for wish in told])
 
 
-def are_kept(schedule, windows, states, wishes):
+def are_kept(schedule, windows, states, wishes, at_end=False):
     """Tells whether states are a list as in a Right for all of some wishes."""
     if not isinstance(states, list) or not all([is_state(schedule, state) for state in states]):
         return False
@@ -39,7 +42,7 @@ def are_kept(schedule, windows, states, wishes):
     if start_of(schedule) not in held:
         return False
     for state in states:
-        if breaks(schedule, windows, state, wishes):
+        if breaks(schedule, windows, state, wishes, at_end):
             return False
         options = deeds_within(schedule, state, windows[state[0]])
         if not all([state_behind(schedule, state, deed) in held for deed in options]):
@@ -47,12 +50,12 @@ def are_kept(schedule, windows, states, wishes):
     return True
 
 
-def is_broken(schedule, windows, history, wishes):
+def is_broken(schedule, windows, history, wishes, at_end=False):
     """Tells whether deeds are a weaving as in a Wrong for one of some wishes."""
     if not isinstance(history, list):
         return False
     found = [start_of(schedule), *woven_from(schedule, windows, history)]
-    return len(found) > len(history) and breaks(schedule, windows, found[-1], wishes)
+    return len(found) > len(history) and breaks(schedule, windows, found[-1], wishes, at_end)
 
 
 def copied(table):
@@ -99,11 +102,11 @@ def weaving_to(ahead, state):
     return found[::-1]
 
 
-def judged(schedule, windows, wishes, known=None):
+def judged(schedule, windows, wishes, known=None, at_end=False):
     """Returns a Right for all of some wishes, or a Wrong of the fewest deeds for one of them."""
     ahead = come_about(schedule, windows, known)
     for state in ahead:
-        if breaks(schedule, windows, state, wishes):
+        if breaks(schedule, windows, state, wishes, at_end):
             return Wrong(weaving_to(ahead, state))
     return Right(list(ahead))
 

@@ -10,7 +10,7 @@ from editionlag.checks import check_lag, is_integer, is_number
 from editionlag.errors import BadEdition, BadLimit, BadPrices, BadTable, TooLarge
 from editionlag.judging import WISHES, Right, judged
 from editionlag.schedules import WORDS, all_windows, check_schedule, is_edition, is_first_edition, is_step, is_width
-from editionlag.states import come_about, is_row, row_behind, row_visited
+from editionlag.states import come_about, is_ended, is_row, row_behind, row_visited
 
 KINDS = ("edition", "fill", "sweep")
 MOST_PRICE = 9
@@ -344,10 +344,7 @@ def look_of(schedule, *, lag=1):
     check_schedule(schedule)
     check_lag(lag)
     windows = all_windows(schedule, lag)
-    ended = []
-    for begun, due, value, entries in come_about(schedule, windows):
-        if begun == len(schedule) and not due:
-            ended.append((value, entries))
+    ended = [state[2:] for state in come_about(schedule, windows) if is_ended(schedule, state)]
     return tuple([schedule[number] for number in windows[-1]]), tuple(sorted(ended, key=place_of))
 
 

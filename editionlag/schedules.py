@@ -100,15 +100,23 @@ def check_schedule(schedule):
         raise BadSchedule(None)
 
 
-def all_windows(schedule, lag):
-    """Returns the windows for each number of steps that have begun, from 0 on."""
+def windows_by(schedule, lags):
+    """Returns the windows for each number of steps that have begun, from 0 on.
+
+    The list tells how far servers may lag while each edition is the newest one.
+    """
     newest = 0
     found = [[0]]
     for word, _ in schedule.steps:
         if word == "edition":
             newest += 1
-        found.append(list(range(max(0, newest - lag), newest + 1)))
+        found.append(list(range(max(0, newest - lags[newest]), newest + 1)))
     return found
+
+
+def all_windows(schedule, lag):
+    """Returns the windows if servers may lag as far by each edition."""
+    return windows_by(schedule, [lag for _ in schedule.editions()])
 
 
 def window(schedule, begun, *, lag=1):

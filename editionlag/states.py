@@ -25,6 +25,11 @@ def can_be_due(schedule, begun):
     return begun > 0 and schedule.steps[begun - 1][0] != "edition"
 
 
+def is_ended(schedule, state):
+    """Tells whether all steps have begun in a state, and it is not due."""
+    return state[0] == len(schedule) and not state[1]
+
+
 def is_state(schedule, state):
     if not isinstance(state, tuple) or len(state) != 4:
         return False
@@ -138,8 +143,8 @@ def state_behind(schedule, state, deed):
 
 def wishes_broken(schedule, state, numbers):
     """Returns the wishes that a state breaks with this window, ascending."""
-    begun, due, value, entries = state
-    ended = begun == len(schedule) and not due
+    _, _, value, entries = state
+    ended = is_ended(schedule, state)
     told = []
     for index, held in enumerate(entries):
         words = [schedule[n][index] for n in numbers]

@@ -9,8 +9,15 @@ from itertools import combinations, product
 
 
 def window_of(first, steps, begun, lag):
+    """The window; in place of a lag may stand ("straggler", lag, number) or ("waits", waits)."""
     so_far = [first] + [told for word, told in steps[:begun] if word == "edition"]
-    return [number for number in range(len(so_far)) if number >= len(so_far) - (lag + 1)]
+    many = len(so_far)
+    if isinstance(lag, int):
+        return [number for number in range(many) if number >= many - (lag + 1)]
+    if lag[0] == "straggler":
+        return [number for number in range(many) if number >= many - (lag[1] + 1) or number == lag[2]]
+    wait = 0 if many == 1 else lag[1][many - 2]
+    return [number for number in range(many) if number >= many - (wait + 1)]
 
 
 def editions_of(first, steps):
@@ -125,8 +132,12 @@ def soonest(width, first, steps, lag, wish):
     ], default=None)
 
 
-def weaving(width, first, steps, lag, deeds, wishes):
-    """Whether deeds can be done and lead to a state that breaks one of the wishes."""
+def is_over(steps, state):
+    return state[0] == len(steps) and not state[1]
+
+
+def weaving(width, first, steps, lag, deeds, wishes, at_end=False):
+    """Whether deeds can be done and lead to a state (where all is over) that breaks one of the wishes."""
     state = (0, False, None, tuple(frozenset() for _ in first))
     for deed in deeds:
         if deed not in thinkable_deeds(width, steps):
@@ -134,18 +145,23 @@ def weaving(width, first, steps, lag, deeds, wishes):
         state = tried(first, steps, state, deed, window_of(first, steps, state[0], lag))
         if state is None:
             return False
+    if at_end and not is_over(steps, state):
+        return False
     return bool(set(wishes) & set(wishes_broken(first, steps, state, window_of(first, steps, state[0], lag))))
 
 
-def closed(width, first, steps, lag, states, wishes):
-    """Whether told states are a list as in a Right for all of the wishes."""
+def closed(width, first, steps, lag, states, wishes, at_end=False):
+    """Whether told states are a list as in a Right for all of the wishes (asked for where all is over)."""
     held = {state[:3] + (tuple(map(frozenset, state[3])),) for state in states}
     if (0, False, None, tuple(frozenset() for _ in first)) not in held:
         return False
     for state in held:
         window = window_of(first, steps, state[0], lag)
         behind = {tried(first, steps, state, deed, window) for deed in thinkable_deeds(width, steps)}
-        if behind - {None} - held or set(wishes) & set(wishes_broken(first, steps, state, window)):
+        if behind - {None} - held:
+            return False
+        asked = is_over(steps, state) or not at_end
+        if asked and set(wishes) & set(wishes_broken(first, steps, state, window)):
             return False
     return True
 
@@ -302,3 +318,17 @@ def plans(one, other):
     most = len(one[1]) + len(other[1])
     thinkable = [plan for size in range(most + 1) for plan in product(("both", "one", "other"), repeat=size)]
     return [plan for plan in thinkable if woven_steps(one, other, plan) is not None]
+
+
+def repairs(many):
+    """All tuples of at most two fills and sweeps, in order."""
+    steps = [step for step in all_steps(many) if step[0] != "edition"]
+    return [told for size in range(3) for told in product(sorted(steps), repeat=size)]
+
+
+def is_enough(width, first, steps, lag):
+    """Whether, with its repair, a schedule breaks neither wish of looking where all is over."""
+    return not any(
+        {"missed", "stray"} & set(wishes_broken(first, steps, state, window_of(first, steps, len(steps), lag)))
+        for state in deeds_to(width, first, steps, lag) if is_over(steps, state)
+    )

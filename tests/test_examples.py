@@ -64,6 +64,30 @@ PARTS = {
     "live": {
         "LiveTable": "(schedule, rows, *, lag=1)",
     },
+    "texts": {
+        "schedule_text": "(schedule)",
+        "weaving_text": "(schedule, history, *, lag=1)",
+        "read_schedule": "(text)",
+        "read_weaving": "(schedule, text, *, lag=1)",
+    },
+    "stragglers": {
+        "stay": "(schedule, *, lag=1)",
+        "harmless": "(schedule, *, lag=1)",
+        "Stayed": "(good, fails)",
+    },
+    "waits": {
+        "are_right_waits": "(schedule, waits)",
+        "wait": "(schedule)",
+        "greatest_waits": "(schedule)",
+        "Longest": "(good, fails)",
+    },
+    "repairs": {
+        "repaired": "(schedule, repair)",
+        "repair": "(schedule, *, lag=1)",
+        "least_repair": "(schedule, *, lag=1)",
+        "Repair": "(repair, states, fails)",
+        "NoRepair": "(fails)",
+    },
 }
 # The classes with a method `shows`, and its parameters.
 SHOWS = {
@@ -77,6 +101,10 @@ SHOWS = {
     ("weaving", "NoPlan"): "(self, one, other, *, lag=1)",
     ("backs", "Back"): "(self, schedule, begun, prices, limit, *, lag=1)",
     ("backs", "NoBack"): "(self, schedule, begun, prices, limit, *, lag=1)",
+    ("stragglers", "Stayed"): "(self, schedule, *, lag=1)",
+    ("waits", "Longest"): "(self, schedule)",
+    ("repairs", "Repair"): "(self, schedule, *, lag=1)",
+    ("repairs", "NoRepair"): "(self, schedule, *, lag=1)",
 }
 
 

@@ -17,28 +17,8 @@ class Mark:
         self._states = states
 
 
-class Trial:
-    """A with-block at whose end a table is as at its beginning."""
-
-    def __init__(self, table):
-        self._table = table
-
-    def __enter__(self):
-        # In the trial the table goes on with copies: to give it back its own lists is all that leaving takes.
-        table = self._table
-        table._mark = Mark(table._mark, table._journal, table._states)
-        table._journal = list(table._journal)
-        table._states = list(table._states)
-        return table
-
-    def __exit__(self, kind, value, trace):
-        self._table._journal = self._table._mark._journal
-        self._table._states = self._table._mark._states
-        self._table._mark = self._table._mark._around
-
-
 class LiveTable:
-    """A table whose rows are all in a state of one schedule."""
+    """A table whose rows are all in a state of one schedule; a with-block over it is a trial."""
 
     def __init__(self, schedule, rows, *, lag=1):
         check_schedule(schedule)
@@ -63,6 +43,18 @@ class LiveTable:
 
     def __len__(self):
         return len(self._journal)
+
+    def __enter__(self):
+        # In the trial the table goes on with copies: to take its own lists again is all that leaving takes.
+        self._mark = Mark(self._mark, self._journal, self._states)
+        self._journal = list(self._journal)
+        self._states = list(self._states)
+        return self
+
+    def __exit__(self, kind, value, trace):
+        self._journal = self._mark._journal
+        self._states = self._mark._states
+        self._mark = self._mark._around
 
     def can(self):
         """Returns the list of all deeds that can be done, in order."""
@@ -124,8 +116,8 @@ class LiveTable:
         return other
 
     def trial(self):
-        """Returns a with-block at whose end the table is as at its beginning."""
-        return Trial(self)
+        """Returns what a with-block is over at whose end the table is as at its beginning: the table."""
+        return self
 
     def attempt(self, work):
         """Calls a function with the table in a trial, and returns what it returns."""

@@ -101,6 +101,17 @@ class Form(unittest.TestCase):
                 if isinstance(node, ast.Name) and isinstance(node.ctx, ast.Load) and node.id not in bound:
                     self.assertIn(node.id, BUILTINS, f"{path}:{node.lineno}")
 
+    def test_leaving_a_with_block_only_assigns_attributes(self):
+        for path, tree in trees():
+            for node in ast.walk(tree):
+                if isinstance(node, ast.FunctionDef) and node.name == "__exit__":
+                    for row in node.body:
+                        self.assertIsInstance(row, ast.Assign, path)
+                        self.assertIsInstance(row.value, (ast.Attribute, ast.Name, ast.Constant), path)
+                        for target in row.targets:
+                            self.assertIsInstance(target, ast.Attribute, path)
+                            self.assertIsInstance(target.value, ast.Name, path)
+
     def test_no_variable_has_the_name_of_an_import_or_a_class(self):
         for path, tree in trees():
             taken = {node.name for node in ast.walk(tree) if isinstance(node, ast.ClassDef)}
